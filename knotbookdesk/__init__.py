@@ -1,0 +1,1 @@
+"""Knotbook: drawings of knots, told exactly."""
