@@ -50,22 +50,22 @@ def signed(crossing):
     return -1 if crossing.sign == 1 else 1
 
 
-def straight_pairs(drawing):
-    """The arcs that follow one another straight on through crossings."""
+def pairs_straight(crossings):
+    """The arcs that follow one another straight on through these crossings."""
     pairs = []
-    for crossing in drawing.crossings:
+    for crossing in crossings:
         pairs.extend([(crossing.ui, crossing.uo), (crossing.oi, crossing.oo)])
     return pairs
 
 
 def first_arcs(drawing):
     """The least arc of each strand that has one, from strand 0 up."""
-    return sorted(set(least_joined(count_arcs(drawing), straight_pairs(drawing))))
+    return sorted(set(least_joined(count_arcs(drawing), pairs_straight(drawing.crossings))))
 
 
 def strands_by_arc(drawing):
     """For each arc the strand it is of."""
-    least = least_joined(count_arcs(drawing), straight_pairs(drawing))
+    least = least_joined(count_arcs(drawing), pairs_straight(drawing.crossings))
     firsts = first_arcs(drawing)
     return [firsts.index(arc) for arc in least]
 
@@ -77,7 +77,7 @@ def count_strands(drawing):
 
 def count_crossing_pieces(drawing):
     """How many pieces the crossings fall into, circles left out."""
-    pairs = straight_pairs(drawing)
+    pairs = pairs_straight(drawing.crossings)
     for crossing in drawing.crossings:
         pairs.append((crossing.ui, crossing.oi))
     # Each crossing has arcs and each arc has crossings, so groups of arcs are as many as groups of crossings.

@@ -50,6 +50,46 @@ def colours(place, p):
     return [11, place, p]
 
 
+def mirror(d, k):
+    return [12, d, k]
+
+
+def turn(d, k):
+    return [13, d, k]
+
+
+def flip(d, k, crossing):
+    return [14, d, k, crossing]
+
+
+def open_at(d, k, crossing):
+    return [15, d, k, crossing]
+
+
+def unkink(d, k, crossing):
+    return [16, d, k, crossing]
+
+
+def unpoke(d, k, first, second):
+    return [17, d, k, first, second]
+
+
+def plain(d, k):
+    return [18, d, k]
+
+
+def put_beside(d, k, other):
+    return [19, d, k, other]
+
+
+def join(d, k, i, other, j):
+    return [20, d, k, i, other, j]
+
+
+def same(k, other):
+    return [21, k, other]
+
+
 def split(told):
     """The flat answers as a list for each call."""
     parts = []
@@ -77,6 +117,23 @@ def ask_of(drawing, *calls):
     if told[0] != [0]:
         raise AssertionError(f"not taken: {drawing} answers {told[0]}")
     return told[1:]
+
+
+def told_as(drawing):
+    """What get answers where the drawing is."""
+    return [len(drawing[1]) // 5, drawing[0]] + list(drawing[1])
+
+
+def made(call, *drawings):
+    """What call answers, and the drawing it leaves at place 0 (None if none); the drawings are at 1, 2 and so on."""
+    puts = [put(place, *drawing) for place, drawing in enumerate(drawings, start=1)]
+    gets = [get(place) for place in range(6)]
+    told = ask(*puts, call, *gets)
+    held = told[len(puts) + 1:]
+    kept = [told_as(drawing) for drawing in drawings]
+    if told[:len(puts)] != [[0]] * len(puts) or held[1:] != kept + [[-1]] * (5 - len(kept)):
+        raise AssertionError(f"not taken or not kept: {drawings} and {call}")
+    return told[len(puts)], None if held[0] == [-1] else (held[0][1], held[0][2:])
 
 
 def braid(width, word):

@@ -193,3 +193,120 @@ def count_colourings(drawing, p):
             for ui, uo, oi, oo, sign in fives(drawing[1])
         )
     return found * p ** drawing[0]
+
+
+def mirrored(drawing):
+    own, row = drawing
+    return own, [number for five in fives(row) for number in crossed_over(five)]
+
+
+def crossed_over(five):
+    """The crossing with the strand above below."""
+    ui, uo, oi, oo, sign = five
+    return oi, oo, ui, uo, 1 - sign
+
+
+def turned(drawing):
+    own, row = drawing
+    return own, [number for ui, uo, oi, oo, sign in fives(row) for number in (uo, ui, oo, oi, sign)]
+
+
+def flipped(drawing, crossing):
+    own, row = drawing
+    changed = list(row)
+    changed[5 * crossing:5 * crossing + 5] = crossed_over(row[5 * crossing:5 * crossing + 5])
+    return own, changed
+
+
+def removed(drawing, gone, along):
+    """The drawing without the crossings in gone: at each, from ui on to oo and from oi to uo if along, else
+    straight on. Each arc that leaves a crossing that's left is walked until it comes to one that's left."""
+    own, row = drawing
+    onward = {}
+    for x in gone:
+        ui, uo, oi, oo, sign = fives(row)[x]
+        onward[ui] = oo if along else uo
+        onward[oi] = uo if along else oo
+    left = [five for x, five in enumerate(fives(row)) if x not in gone]
+    walks = []
+    for ui, uo, oi, oo, sign in left:
+        for arc in (uo, oo):
+            walk = [arc]
+            while walk[-1] in onward:
+                walk.append(onward[walk[-1]])
+            walks.append(walk)
+    new = {arc: number for number, walk in enumerate(sorted(walks, key=min)) for arc in walk}
+    closed = count_cycles({arc: onward[arc] for arc in range(2 * len(row) // 5) if arc not in new})
+    return own + closed, [k for five in left for k in [new[arc] for arc in five[:4]] + [five[4]]]
+
+
+def opened(drawing, crossing):
+    return removed(drawing, [crossing], True)
+
+
+def undone(drawing, gone):
+    return removed(drawing, gone, False)
+
+
+def kinks(drawing):
+    return [x for x, (ui, uo, oi, oo, sign) in enumerate(fives(drawing[1])) if uo == oi or oo == ui]
+
+
+def pokes(drawing):
+    """The pairs of crossings that are pokes, in the order in which they're undone."""
+    def leads(out, into):
+        return {(x, y) for x, y in product(range(len(all_fives)), repeat=2) if all_fives[x][out] == all_fives[y][into]}
+
+    all_fives = fives(drawing[1])
+    below = leads(1, 0)
+    above = leads(3, 2)
+    return [
+        (x, y) for x, y in product(range(len(all_fives)), repeat=2)
+        if x < y and all_fives[x][4] + all_fives[y][4] == 1 and {(x, y), (y, x)} & above and {(x, y), (y, x)} & below
+    ]
+
+
+def plain(drawing):
+    """What is left of the drawing undone as far as it goes, and all that was undone, one after another."""
+    done = []
+    while kinks(drawing) or pokes(drawing):
+        gone = (kinks(drawing)[0],) if kinks(drawing) else pokes(drawing)[0]
+        drawing = undone(drawing, gone)
+        done.append(gone)
+    return drawing, done
+
+
+def beside(one, other):
+    raised = 2 * len(one[1]) // 5
+    row = list(one[1])
+    for ui, uo, oi, oo, sign in fives(other[1]):
+        row += [ui + raised, uo + raised, oi + raised, oo + raised, sign]
+    return one[0] + other[0], row
+
+
+def joined(one, i, other, j):
+    circles, row = beside(one, other)
+    j += 2 * len(one[1]) // 5
+    heads = {row[k]: k for k in range(len(row)) if k % 5 in (0, 2)}
+    row[heads[i]] = j
+    row[heads[j]] = i
+    return circles, row
+
+
+def same(one, other):
+    """Whether some way to match crossings with crossings and arcs with arcs makes them one: each is tried."""
+    if one[0] != other[0] or len(one[1]) != len(other[1]):
+        return False
+    waiting = [([], {})]
+    while waiting:
+        matched, arcs = waiting.pop()
+        if len(matched) == len(one[1]) // 5:
+            return True
+        mine = fives(one[1])[len(matched)]
+        for x, theirs in enumerate(fives(other[1])):
+            if x not in matched and mine[4] == theirs[4]:
+                more = dict(arcs)
+                fits = all(more.setdefault(a, b) == b for a, b in zip(mine[:4], theirs[:4]))
+                if fits and len(set(more.values())) == len(more):
+                    waiting.append((matched + [x], more))
+    return False

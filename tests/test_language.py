@@ -191,8 +191,9 @@ class Names(unittest.TestCase):
             for parent in ast.walk(tree):
                 for node in ast.iter_child_nodes(parent):
                     if isinstance(node, ast.Name) and node.id in kept and isinstance(node.ctx, ast.Load):
-                        self.assertIsInstance(parent, ast.Subscript, (name, node.lineno))
-                        self.assertIsInstance(parent.ctx, ast.Load, (name, node.lineno))
+                        asked = isinstance(parent, ast.Compare) and isinstance(parent.ops[0], ast.In)
+                        read = isinstance(parent, ast.Subscript) and isinstance(parent.ctx, ast.Load)
+                        self.assertTrue(asked or read, (name, node.lineno))
 
 
 if __name__ == "__main__":
