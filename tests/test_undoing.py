@@ -15,7 +15,7 @@ SMALL = all_drawings(1) + all_drawings(2) + all_drawings(3)
 DRAWINGS = list(NAMED.values()) + many(Random(31), 200)
 ORDINARY = [TREFOIL, TREFOIL_MINUS, FIGURE_EIGHT, HOPF, HOPF_MINUS, (3, TREFOIL[1]), beside(HOPF, KINK, CIRCLE)]
 
-# No kink at first; the two pokes that the first number has, and what comes after, hang on the numbers.
+# One drawing numbered in two ways, and what is undone of it, one after another.
 IN_TWO_ORDERS = [
     ((2, [7, 2, 3, 0, 0, 6, 9, 0, 8, 1, 2, 5, 4, 3, 1, 5, 6, 1, 4, 0, 9, 1, 8, 7, 0]), [(0, 2), (0, 1), (0,)]),
     ((2, [4, 1, 7, 3, 1, 1, 5, 3, 9, 0, 9, 2, 8, 7, 0, 6, 4, 5, 0, 0, 2, 6, 0, 8, 1]), [(0, 1), (0,), (0,), (0,)]),
@@ -229,6 +229,8 @@ class Plain(unittest.TestCase):
             self.assertNotEqual(made(plain(0, 1), drawing)[1], made(unpoke(0, 1, *second), drawing)[1])
 
     def test_how_many_hangs_on_the_order(self):
+        first, second = [drawing for drawing, done in IN_TWO_ORDERS]
+        self.assertTrue(oracle.same(first, second))
         for drawing, done in IN_TWO_ORDERS:
             self.assertEqual(oracle.plain(drawing)[1], done)
             self.assertEqual(made(plain(0, 1), drawing), ([len(done)], oracle.plain(drawing)[0]))
